@@ -1,0 +1,79 @@
+"""A second reckoning, straight from the words: it reads rows by itself and tries every collation."""
+
+GAP = 2 ** 32 - 1
+LOST = 2 ** 24
+GAP_CELL = "gap"
+
+
+def numbers(*cells):
+    """A row in numbers, of gaps (GAP_CELL) and words (tuples of letters)."""
+    told = []
+    for cell in cells:
+        if cell == GAP_CELL:
+            told.append(GAP)
+        else:
+            told.append(len(cell))
+            told.extend(cell)
+    return told
+
+
+def read(told):
+    """The cells of a row in numbers, or None if the numbers are no row's."""
+    rest = list(told)
+    cells = []
+    while rest:
+        kind = rest.pop(0)
+        if kind == GAP:
+            cells.append(GAP_CELL)
+            continue
+        if kind > 512 or kind > len(rest):
+            return None
+        word, rest = tuple(rest[:kind]), rest[kind:]
+        if not all(0 <= letter < 2 ** 21 or letter == LOST for letter in word):
+            return None
+        cells.append(word)
+    return cells
+
+
+def price(word, other):
+    if word == other and not any(letter == LOST for letter in word):
+        return 0
+    if len(word) == len(other) and all(a == b or LOST in (a, b) for a, b in zip(word, other)):
+        return 1
+    return 4
+
+
+def collations(x, y, last=None):
+    """Every collation of the cells x and y, as (steps, cost); last is the step ahead of them."""
+    if not x and not y:
+        yield (), 0
+    for step, takes_x, takes_y, paid in next_steps(x, y, last):
+        for steps, rest in collations(x[takes_x:], y[takes_y:], step):
+            yield (step,) + steps, paid + rest
+
+
+def next_steps(x, y, last):
+    x_word = bool(x) and x[0] != GAP_CELL
+    y_word = bool(y) and y[0] != GAP_CELL
+    if x_word and y_word:
+        yield 0, 1, 1, price(x[0], y[0])
+    if x_word and last in (6, 1):
+        yield 1, 1, 0, 0
+    if y_word and last in (5, 2):
+        yield 2, 0, 1, 0
+    if x_word:
+        yield 3, 1, 0, 3
+    if y_word:
+        yield 4, 0, 1, 3
+    if x and not x_word:
+        yield 5, 1, 0, 0
+    if y and not y_word:
+        yield 6, 0, 1, 0
+
+
+def cost(x, y):
+    """What cost answers to x and y in numbers."""
+    x_cells, y_cells = read(x), read(y)
+    if x_cells is None or y_cells is None:
+        return [-1]
+    return [min(paid for _, paid in collations(tuple(x_cells), tuple(y_cells)))]
