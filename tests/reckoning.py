@@ -71,9 +71,46 @@ def next_steps(x, y, last):
         yield 6, 0, 1, 0
 
 
-def cost(x, y):
-    """What cost answers to x and y in numbers."""
+def follow(x, y, steps):
+    """What steps cost over the cells x and y; None if they are no collation of the two."""
+    paid, last = 0, None
+    for step in steps:
+        allowed = {each: (takes_x, takes_y, more) for each, takes_x, takes_y, more in next_steps(x, y, last)}
+        if step not in allowed:
+            return None
+        takes_x, takes_y, more = allowed[step]
+        x, y, paid, last = x[takes_x:], y[takes_y:], paid + more, step
+    return None if x or y else paid
+
+
+def least_by_parts(x, y, last=None, known=None):
+    """The first of the least collations of the cells x and y, as (cost, steps), for longer rows."""
+    known = {} if known is None else known
+    place = (len(x), len(y), last)
+    if place not in known:
+        found = [(0, ())] if not x and not y else []
+        for step, takes_x, takes_y, paid in next_steps(x, y, last):
+            rest, steps = least_by_parts(x[takes_x:], y[takes_y:], step, known)
+            found.append((paid + rest, (step,) + steps))
+        known[place] = min(found)
+    return known[place]
+
+
+def least(x, y):
+    """The first of the least collations of x and y in numbers, as (cost, steps); None if one is no row."""
     x_cells, y_cells = read(x), read(y)
     if x_cells is None or y_cells is None:
-        return [-1]
-    return [min(paid for _, paid in collations(tuple(x_cells), tuple(y_cells)))]
+        return None
+    return min((paid, steps) for steps, paid in collations(tuple(x_cells), tuple(y_cells)))
+
+
+def cost(x, y):
+    """What cost answers to x and y in numbers."""
+    found = least(x, y)
+    return [-1] if found is None else [found[0]]
+
+
+def steps(x, y):
+    """What steps answers to x and y in numbers."""
+    found = least(x, y)
+    return [-1] if found is None else list(found[1])

@@ -4,27 +4,7 @@ import unittest
 
 from collation.desk import cost
 from tests.reckoning import GAP, GAP_CELL, LOST, numbers
-
-A, B, C, D = (1, 2), (3, 4), (5, 6), (7, 8)
-NO_ROWS = (
-    [513] + [0] * 513,
-    [513],
-    [GAP - 1],
-    [GAP + 1],
-    [2 ** 64 - 1],
-    [LOST],
-    [1, 2 ** 21],
-    [1, 2 ** 24 - 1],
-    [1, 2 ** 24 + 1],
-    [1, GAP],
-    [1, 2 ** 64 - 1],
-    [1],
-    [3, 1, 2],
-    [512] + [0] * 511,
-    [0, GAP, 1, 5, 2, 6],
-    [GAP, 0, 600],
-    [2, 1, 2 ** 21, 0],
-)
+from tests.samples import A, B, C, D, NO_ROWS
 
 
 class CostCase(unittest.TestCase):

@@ -5,12 +5,8 @@ import unittest
 
 from collation.desk import cost
 from tests import reckoning
-from tests.reckoning import GAP, GAP_CELL, LOST, numbers
-
-
-def rows(cells, most):
-    """All rows of at most so many of these cells, in numbers."""
-    return [numbers(*row) for n in range(most + 1) for row in itertools.product(cells, repeat=n)]
+from tests.reckoning import GAP, GAP_CELL, LOST
+from tests.samples import rows
 
 
 def words_in(row):
