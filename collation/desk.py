@@ -1,9 +1,10 @@
-"""The calls. x is the base's row, y the other's, both in numbers."""
+"""The calls. x is the base's row, y the other's, both in numbers; s are steps."""
 
 from collation.first import first_steps
 from collation.rests import least_cost
 from collation.rows import refusal
 from collation.rows import row_cells
+from collation.rules import steps_cost
 
 
 def rows_refusal(x, y):
@@ -28,3 +29,11 @@ def steps(x, y):
     if refused < 0:
         return [refused]
     return first_steps(row_cells(x), row_cells(y))
+
+
+def judge(x, y, s):
+    """The cost of the steps s, or the refusal of x, of y, or of s as no collation of the two."""
+    refused = rows_refusal(x, y)
+    if refused < 0:
+        return [refused]
+    return [steps_cost(row_cells(x), row_cells(y), s)]

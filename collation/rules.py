@@ -1,4 +1,4 @@
-"""The seven steps: where each may stand, what it costs, where it leads."""
+"""The seven steps: where each may stand, what it costs, where it leads; which are a collation."""
 
 from collation.rows import pair_cost
 
@@ -17,6 +17,8 @@ OTHER_TAKEN = (1, 0, 1, 0, 1, 0, 1)
 
 # What a step of one word alone costs that no gap accounts for.
 ALONE_COST = 3
+
+NO_COLLATION = -6
 
 
 # How many cells some steps, from the beginning, have taken of the base and of the other row, and
@@ -86,3 +88,17 @@ def step_cost(base, other, place, step):
 def place_behind(place, step):
     """The place that a step leads to."""
     return Place(place.base_taken + BASE_TAKEN[step], place.other_taken + OTHER_TAKEN[step], step)
+
+
+def steps_cost(base, other, told):
+    """What some numbers cost as the steps of a collation; NO_COLLATION if they are none."""
+    place = beginning()
+    total = 0
+    for step in told:
+        if not may_stand(base, other, place, step):
+            return NO_COLLATION
+        total += step_cost(base, other, place, step)
+        place = place_behind(place, step)
+    if not is_ending(base, other, place):
+        return NO_COLLATION
+    return total

@@ -114,3 +114,17 @@ def steps(x, y):
     """What steps answers to x and y in numbers."""
     found = least(x, y)
     return [-1] if found is None else list(found[1])
+
+
+def costs(x, y):
+    """Every collation of x and y in numbers, with its cost; None if one is no row."""
+    x_cells, y_cells = read(x), read(y)
+    if x_cells is None or y_cells is None:
+        return None
+    return dict(collations(tuple(x_cells), tuple(y_cells)))
+
+
+def judge(x, y, s):
+    """What judge answers to x and y in numbers and the steps s."""
+    known = costs(x, y)
+    return [-1] if known is None else [known.get(tuple(s), -6)]
