@@ -1,10 +1,13 @@
-"""The calls. x is the base's row, y the other's, both in numbers; s are steps."""
+"""The calls. x is the base's row, y the other's, both in numbers; s are steps; (i, j) is a place."""
 
 from collation.first import first_steps
 from collation.rests import least_cost
+from collation.rests import least_cost_through
 from collation.rows import refusal
 from collation.rows import row_cells
 from collation.rules import steps_cost
+
+NO_PLACE = -4
 
 
 def rows_refusal(x, y):
@@ -37,3 +40,15 @@ def judge(x, y, s):
     if refused < 0:
         return [refused]
     return [steps_cost(row_cells(x), row_cells(y), s)]
+
+
+def through(i, j, x, y):
+    """The least cost of a collation of x and y that goes through (i, j), or the refusal."""
+    refused = rows_refusal(x, y)
+    if refused < 0:
+        return [refused]
+    base = row_cells(x)
+    other = row_cells(y)
+    if i > len(base) or j > len(other):
+        return [NO_PLACE]
+    return [least_cost_through(base, other, i, j)]

@@ -1,4 +1,4 @@
-"""What is left to pay, at the least, from each place of two rows to their ends."""
+"""What is left to pay, at the least, from each place of two rows to their ends; the least cost."""
 
 from collation.rows import pair_cost
 from collation.rules import ALONE_COST
@@ -25,15 +25,30 @@ def spared_rests(plain, other):
     return spared
 
 
-def line_at_end(other):
-    """The line where all cells of the base are taken."""
-    plain = [0] * (len(other) + 1)
-    for j in range(len(other) - 1, -1, -1):
+def nothing_left():
+    """The line at both rows' ends: nothing is left to pay."""
+    return Line([0], [0], [0])
+
+
+def line_at_end(other, behind):
+    """The line where all cells of the base's part are taken.
+
+    other is a part of the other row, too; behind is the line that begins where both parts end.
+    """
+    end = len(other)
+    plain = [0] * end + [behind.plain[0]]
+    held = [0] * end + [behind.held[0]]
+    spared = [0] * end + [behind.spared[0]]
+    for j in range(end - 1, -1, -1):
         if other[j] is None:
-            plain[j] = plain[j + 1]
+            # What this gap may have held can lie behind the parts' end.
+            plain[j] = held[j + 1]
+            spared[j] = plain[j]
         else:
             plain[j] = plain[j + 1] + ALONE_COST
-    return Line(plain, plain, spared_rests(plain, other))
+            spared[j] = spared[j + 1]
+        held[j] = plain[j]
+    return Line(plain, held, spared)
 
 
 def line_at_word(line, other, prices):
@@ -85,18 +100,29 @@ def line_ahead(line, cell, other, prices):
     return line_at_word(line, other, prices[cell])
 
 
-def least_cost(base, other):
-    """The least cost of a collation of two rows' cells."""
-    line = line_at_end(other)
+def first_line(base, other, behind):
+    """The line where no cell is taken of a part of the base; other and behind as in line_at_end."""
+    line = line_at_end(other, behind)
     prices = {}
     for cell in reversed(base):
         line = line_ahead(line, cell, other, prices)
-    return line.plain[0]
+    return line
+
+
+def least_cost(base, other):
+    """The least cost of a collation of two rows' cells."""
+    return first_line(base, other, nothing_left()).plain[0]
+
+
+def least_cost_through(base, other, i, j):
+    """The least cost of a collation that goes through (i, j), a place of the two rows."""
+    behind = first_line(base[i:], other[j:], nothing_left())
+    return first_line(base[:i], other[:j], behind).plain[0]
 
 
 def all_lines(base, other):
     """The lines where 0, 1, 2 .. cells of the base are taken, up to all."""
-    line = line_at_end(other)
+    line = line_at_end(other, nothing_left())
     lines = [line]
     prices = {}
     for cell in reversed(base):

@@ -128,3 +128,54 @@ def judge(x, y, s):
     """What judge answers to x and y in numbers and the steps s."""
     known = costs(x, y)
     return [-1] if known is None else [known.get(tuple(s), -6)]
+
+
+def places(steps):
+    """The places that steps go through, from (0, 0) on."""
+    i = j = 0
+    passed = [(0, 0)]
+    for step in steps:
+        i += step in (0, 1, 3, 5)
+        j += step in (0, 2, 4, 6)
+        passed.append((i, j))
+    return passed
+
+
+def leasts_through(x, y):
+    """For each place of x and y in numbers the least cost through it; None if one is no row."""
+    known = costs(x, y)
+    if known is None:
+        return None
+    leasts = {}
+    for steps, paid in known.items():
+        for place in places(steps):
+            leasts[place] = min(paid, leasts.get(place, paid))
+    return leasts
+
+
+def through(i, j, x, y):
+    """What through answers to a place and x and y in numbers."""
+    leasts = leasts_through(x, y)
+    return [-1] if leasts is None else [leasts.get((i, j), -4)]
+
+
+def paid_up_to(x, y):
+    """For each place of the cells x and y and each step that may lead there the least paid before."""
+    paid = {(0, 0, None): 0}
+    for i in range(len(x) + 1):
+        for j in range(len(y) + 1):
+            for last in (None, 0, 1, 2, 3, 4, 5, 6):
+                if (i, j, last) in paid:
+                    for step, takes_x, takes_y, more in next_steps(x[i:], y[j:], last):
+                        there = (i + takes_x, j + takes_y, step)
+                        paid[there] = min(paid[i, j, last] + more, paid.get(there, paid[i, j, last] + more))
+    return paid
+
+
+def leasts_through_by_parts(x, y):
+    """For each place of the cells x and y the least cost through it, for longer rows."""
+    leasts, known = {}, {}
+    for (i, j, last), before in paid_up_to(x, y).items():
+        whole = before + least_by_parts(x[i:], y[j:], last, known)[0]
+        leasts[i, j] = min(whole, leasts.get((i, j), whole))
+    return leasts
