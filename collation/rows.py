@@ -64,13 +64,17 @@ def row_cells(numbers):
     return cells
 
 
+def are_alike(word, other):
+    # A lost letter may have been any: a word that has one is not even alike itself.
+    return word == other and LOST not in word
+
+
 def pair_cost(word, other):
     """What a word costs beside another."""
+    if are_alike(word, other):
+        return ALIKE_COST
     if len(word) != len(other):
         return UNLIKE_COST
-    # A lost letter may have been any: even a word beside itself is then not alike.
-    if word == other and LOST not in word:
-        return ALIKE_COST
     for letter, beside in zip(word, other):
         if letter != beside and letter != LOST and beside != LOST:
             return UNLIKE_COST

@@ -179,3 +179,46 @@ def leasts_through_by_parts(x, y):
         whole = before + least_by_parts(x[i:], y[j:], last, known)[0]
         leasts[i, j] = min(whole, leasts.get((i, j), whole))
     return leasts
+
+
+def runs(steps, kind, taking):
+    """The runs of steps of a kind: lists of the cells of the row that the steps named in taking take."""
+    found, last, cell = [], None, 0
+    for step in steps:
+        if step == kind:
+            if last != kind:
+                found.append([])
+            found[-1].append(cell)
+        cell += step in taking
+        last = step
+    return found
+
+
+def all_moves(x, y, steps):
+    """Every move of a collation of the cells x and y, as (words of x, words of y)."""
+    for missing in runs(steps, 3, (0, 1, 3, 5)):
+        for added in runs(steps, 4, (0, 2, 4, 6)):
+            for n in range(2, min(len(missing), len(added)) + 1):
+                for a in range(len(missing) - n + 1):
+                    for b in range(len(added) - n + 1):
+                        of_x, of_y = missing[a:a + n], added[b:b + n]
+                        if all(price(x[i], y[j]) == 0 for i, j in zip(of_x, of_y)):
+                            yield of_x, of_y
+
+
+def moves_of(x, y, steps):
+    """What moves answers of a collation of the cells x and y."""
+    left, answer = list(all_moves(x, y, steps)), []
+    while left:
+        of_x, of_y = min(left, key=lambda move: (-len(move[0]), move[0][0], move[1][0]))
+        answer += [of_x[0], of_y[0], len(of_x)]
+        left = [move for move in left if not set(move[0]) & set(of_x) and not set(move[1]) & set(of_y)]
+    return answer
+
+
+def moves(x, y, s):
+    """What moves answers to x and y in numbers and the steps s."""
+    x_cells, y_cells = read(x), read(y)
+    if x_cells is None or y_cells is None:
+        return [-1]
+    return [-6] if follow(x_cells, y_cells, s) is None else moves_of(x_cells, y_cells, s)
